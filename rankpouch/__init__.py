@@ -1,0 +1,1 @@
+"""Rankpouch: a long row told by few."""
