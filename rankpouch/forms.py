@@ -49,5 +49,9 @@ def good_alone(entry, slack):
 def good_beside(before, entry, slack):
     if entry[0] < before[0] or entry[1] <= before[1] or entry[2] <= before[2]:
         return False
+    return near_enough(before, entry, slack)
+
+
+def near_enough(before, entry, slack):
     # Between equal numbers every place holds that number too, so a wide gap there leaves nothing unknown.
     return entry[0] == before[0] or entry[2] <= before[1] + slack + 1
