@@ -15,8 +15,10 @@ def below(pouch, number):
 def between(pouch, one, other):
     if other < one:
         return (0, 0)
-    ahead = below(pouch, one)
-    through = upto(pouch, other)
+    return apart(below(pouch, one), upto(pouch, other))
+
+
+def apart(ahead, through):
     return (max(0, through[0] - ahead[1]), through[1] - ahead[0])
 
 

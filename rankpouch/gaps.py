@@ -4,6 +4,7 @@ Those that are handed in have a good form, as forms.look_pouch asks it.
 """
 
 from rankpouch.forms import near_enough
+from rankpouch.rows import look_row, places_of
 
 
 def empty():
@@ -15,6 +16,15 @@ def of_run(number, times):
     if times != 1:
         entries.append((number, times, times))
     return (times, 0, 0, entries)
+
+
+def of_row(row):
+    entries = []
+    for number, stands in places_of(row).items():
+        entries.append((number, stands[0], stands[0]))
+        if stands[0] != stands[1]:
+            entries.append((number, stands[1], stands[1]))
+    return (look_row(row), 0, 0, entries)
 
 
 def merged(one, other):

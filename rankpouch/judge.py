@@ -2,7 +2,7 @@
 
 from rankpouch.errors import NoSize, Wrong
 from rankpouch.forms import look_pouch
-from rankpouch.rows import look_row, packed
+from rankpouch.rows import look_row, places_of
 
 
 def judge(row, pouch):
@@ -12,15 +12,6 @@ def judge(row, pouch):
         raise NoSize("the size is not the row's length")
     look_places(places_of(row), pouch[3])
     return True
-
-
-def places_of(row):
-    places = {}
-    length = 0
-    for number, times in packed(row):
-        places[number] = (length + 1, length + times)
-        length = length + times
-    return places
 
 
 def look_places(places, entries):

@@ -43,3 +43,13 @@ def packed(row):
     for number, times in row:
         times_of[number] = times_of.get(number, 0) + times
     return [(number, times_of[number]) for number in sorted(times_of)]
+
+
+def places_of(row):
+    # Each number has its first and its last place in the sorted row; the numbers come rising.
+    places = {}
+    length = 0
+    for number, times in packed(row):
+        places[number] = (length + 1, length + times)
+        length = length + times
+    return places

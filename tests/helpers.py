@@ -1,4 +1,4 @@
-"""What several test files need: bounds, rows laid out, and every small data pouch of a good form."""
+"""What several test files need: bounds, rows laid out and drawn, and every small data pouch of a good form."""
 
 import copy
 import itertools
@@ -64,3 +64,32 @@ def stays(function, *given):
     if function(*given) != kept or told != kept:
         raise AssertionError(f"{function.__name__} answered unlike when asked again: {given}")
     return told
+
+
+def few_numbers(draw):
+    return [(draw.randint(-3, 3), draw.randint(1, 4)) for _ in range(draw.randint(1, 40))]
+
+
+def many_numbers(draw):
+    return [(draw.randint(-200, 200), 1) for _ in range(draw.randint(1, 120))]
+
+
+def long_runs(draw):
+    many = draw.randint(1, 30)
+    return [(draw.randint(-20, 20), draw.randint(1, LONGEST // many)) for _ in range(many)]
+
+
+def sixty_figures(draw):
+    ends = (-HUGE, 1 - HUGE, 2 - HUGE, 0, HUGE - 2, HUGE - 1, HUGE)
+    return [(draw.choice(ends + (draw.randint(-HUGE, HUGE),)), draw.randint(1, 9)) for _ in range(draw.randint(1, 40))]
+
+
+def rising(draw):
+    return sorted(many_numbers(draw))
+
+
+def falling(draw):
+    return sorted(many_numbers(draw), reverse=True)
+
+
+KINDS = (few_numbers, many_numbers, long_runs, sixty_figures, rising, falling)

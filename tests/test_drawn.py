@@ -4,42 +4,13 @@ import copy
 import random
 import unittest
 
-from helpers import HUGE, LONGEST
+from helpers import KINDS, LONGEST
 from rankpouch.asks import below, between, so_manieth, upto
 from rankpouch.errors import NoPlace
 from rankpouch.forms import look_pouch
 from rankpouch.gaps import empty, merged, of_run, thinned
 from rankpouch.judge import judge
 from rankpouch.rows import count_below, count_upto, look_row
-
-
-def few_numbers(draw):
-    return [(draw.randint(-3, 3), draw.randint(1, 4)) for _ in range(draw.randint(1, 40))]
-
-
-def many_numbers(draw):
-    return [(draw.randint(-200, 200), 1) for _ in range(draw.randint(1, 120))]
-
-
-def long_runs(draw):
-    many = draw.randint(1, 30)
-    return [(draw.randint(-20, 20), draw.randint(1, LONGEST // many)) for _ in range(many)]
-
-
-def sixty_figures(draw):
-    ends = (-HUGE, 1 - HUGE, 2 - HUGE, 0, HUGE - 2, HUGE - 1, HUGE)
-    return [(draw.choice(ends + (draw.randint(-HUGE, HUGE),)), draw.randint(1, 9)) for _ in range(draw.randint(1, 40))]
-
-
-def rising(draw):
-    return sorted(many_numbers(draw))
-
-
-def falling(draw):
-    return sorted(many_numbers(draw), reverse=True)
-
-
-KINDS = (few_numbers, many_numbers, long_runs, sixty_figures, rising, falling)
 
 
 class Drawn(unittest.TestCase):

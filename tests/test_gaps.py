@@ -1,9 +1,10 @@
 import copy
+import itertools
 import unittest
 
 from helpers import HUGE, LONGEST, exact, good_pouches, stays
 from rankpouch.forms import look_pouch
-from rankpouch.gaps import empty, merged, of_run, thinned
+from rankpouch.gaps import empty, merged, of_row, of_run, thinned
 from rankpouch.judge import judge
 
 ONE = (4, 1, 1, [(1, 1, 1), (3, 2, 3), (5, 4, 4)])
@@ -99,6 +100,31 @@ class OfRun(PouchTest):
         told[3].clear()
         self.assertEqual(other, (3, 0, 0, [(7, 1, 1), (7, 3, 3)]))
         self.assertEqual(of_run(7, 3), other)
+
+
+class OfRow(PouchTest):
+    def test_the_empty_row(self):
+        self.assertEqual(stays(of_row, []), empty())
+
+    def test_one_run(self):
+        for number in (0, 7, -HUGE, HUGE):
+            for times in (1, 2, 3, LONGEST):
+                self.assertEqual(stays(of_row, [(number, times)]), of_run(number, times))
+
+    def test_some_runs(self):
+        told = stays(of_row, [(5, 2), (-3, 1), (5, 3), (0, 1), (-3, 2), (9, 2)])
+        self.assertEqual(told, (11, 0, 0, [(-3, 1, 1), (-3, 3, 3), (0, 4, 4), (5, 5, 5), (5, 9, 9), (9, 10, 10),
+                                           (9, 11, 11)]))
+        self.assert_good(told)
+
+    def test_all_small_rows(self):
+        runs = [(number, times) for number in (-1, 0, 2) for times in (1, 2, 3)]
+        for many in range(4):
+            for row in itertools.product(runs, repeat=many):
+                told = of_row(list(row))
+                self.assert_good(told)
+                self.assertIs(judge(list(row), told), True)
+                self.assertEqual(told[1:3], (0, 0))
 
 
 class Merged(PouchTest):

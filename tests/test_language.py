@@ -15,6 +15,9 @@ BUILTINS = set("""len range enumerate zip min max sum abs sorted reversed int st
 METHODS = set("""append clear copy count endswith extend find get index insert isalnum isalpha isdigit islower isspace
     isupper items join keys ljust lower lstrip partition pop remove replace reverse rfind rjust rpartition rsplit
     rstrip setdefault split splitlines startswith strip update upper values zfill bit_length""".split())
+PYTHONS = {name for kind in (str, int, list, tuple, dict, set, frozenset, bytes, bytearray) for name in dir(kind)}
+VALUES = set("count index title find get join lower upper split strip copy add".split())
+WALKERS = set("list tuple dict sorted sum any all enumerate zip min max".split())
 UNDERSCORED = {"__init__", "__eq__", "__repr__", "__str__", "__len__"}
 WORDS = re.compile(r"""\b(type|typing|typing_extensions|enum|Enum|IntEnum|StrEnum|Flag|IntFlag|Generic|Protocol|ABC
     |ABCMeta|namedtuple|NamedTuple|TypedDict|TYPE_CHECKING|abstractmethod)\b|dataclass|overload|contextmanager""",
@@ -42,6 +45,25 @@ def trees():
 
 def nodes(*kinds):
     return [(name, node) for name, tree in trees() for node in ast.walk(tree) if isinstance(node, kinds)]
+
+
+def own_methods():
+    return {part.name for _, node in nodes(ast.ClassDef) for part in node.body if isinstance(part, ast.FunctionDef)}
+
+
+def own_values():
+    return {node.attr for _, node in nodes(ast.Attribute) if isinstance(node.ctx, ast.Store)}
+
+
+def parents(tree):
+    return {child: node for node in ast.walk(tree) for child in ast.iter_child_nodes(node)}
+
+
+def called(node):
+    """The name or the method that a call calls, or None where it is no call."""
+    if not isinstance(node, ast.Call):
+        return None
+    return node.func.id if isinstance(node.func, ast.Name) else node.func.attr
 
 
 class Language(unittest.TestCase):
@@ -128,6 +150,68 @@ class Language(unittest.TestCase):
         for name, node in nodes(ast.Call):
             if isinstance(node.func, ast.Attribute):
                 self.assertIn(node.func.attr, METHODS | own, f"{name}: {node.lineno}")
+
+    def test_no_name_is_a_method_here_and_a_value_there(self):
+        self.assertEqual(own_methods() & own_values(), set())
+
+    def test_methods_and_values_are_not_called_like_those_of_python(self):
+        self.assertEqual((own_methods() - UNDERSCORED) & (PYTHONS - METHODS - {"add", "discard"}), set())
+        self.assertEqual(own_values() & ((PYTHONS - VALUES) | {"args", "sort"}), set())
+
+    def test_no_method_stands_twice(self):
+        for name, node in nodes(ast.ClassDef):
+            names = [part.name for part in node.body if isinstance(part, ast.FunctionDef)]
+            self.assertEqual(len(names), len(set(names)), node.name)
+
+    def test_each_name_once_at_the_top(self):
+        for name, tree in trees():
+            bound = [part.asname or part.name for node in tree.body if isinstance(node, ast.ImportFrom)
+                     for part in node.names]
+            bound += [node.name for node in tree.body if isinstance(node, (ast.FunctionDef, ast.ClassDef))]
+            bound += [node.targets[0].id for node in tree.body if isinstance(node, ast.Assign)]
+            self.assertEqual(len(bound), len(set(bound)), name)
+
+    def test_no_local_is_called_like_an_import_or_a_class_of_its_file(self):
+        for name, tree in trees():
+            taken = {part.name for node in tree.body if isinstance(node, ast.ImportFrom) for part in node.names}
+            taken |= {node.name for node in tree.body if isinstance(node, ast.ClassDef)}
+            for node in ast.walk(tree):
+                if isinstance(node, ast.arg):
+                    self.assertNotIn(node.arg, taken, f"{name}: {node.lineno}")
+                if isinstance(node, ast.Name) and isinstance(node.ctx, ast.Store):
+                    self.assertNotIn(node.id, taken, f"{name}: {node.lineno}")
+
+    def test_is_stands_beside_none_true_and_false(self):
+        for name, node in nodes(ast.Compare):
+            for sign, right in zip(node.ops, node.comparators):
+                if isinstance(sign, (ast.Is, ast.IsNot)):
+                    self.assertTrue(isinstance(right, ast.Constant) and right.value in (None, True, False), name)
+
+    def test_an_init_gives_nothing_back(self):
+        for name, node in nodes(ast.FunctionDef):
+            if node.name == "__init__":
+                self.assertFalse([part for part in ast.walk(node) if isinstance(part, ast.Return)], name)
+
+    def test_walked_at_once(self):
+        for name, tree in trees():
+            above = parents(tree)
+            for node in ast.walk(tree):
+                if called(node) in ("zip", "enumerate", "reversed", "range", "items", "keys", "values"):
+                    over = above[node]
+                    walked = isinstance(over, (ast.For, ast.comprehension)) and over.iter is node
+                    taken = called(over) in WALKERS and over.args[0] is node
+                    self.assertTrue(walked or taken, f"{name}: {node.lineno}")
+
+    def test_sets_are_neither_kept_nor_walked(self):
+        for name, tree in trees():
+            above = parents(tree)
+            for node in ast.walk(tree):
+                if isinstance(node, ast.Set) or called(node) in ("set", "frozenset"):
+                    over = above[node]
+                    asked = isinstance(over, ast.Compare) and (
+                        over.left is not node or isinstance(over.ops[0], (ast.Eq, ast.NotEq)))
+                    taken = called(over) in ("sorted", "len") and not over.keywords
+                    self.assertTrue(asked or taken, f"{name}: {node.lineno}")
 
     def test_powers_have_a_written_exponent(self):
         for name, node in nodes(ast.BinOp):

@@ -3,7 +3,7 @@ import itertools
 import unittest
 
 from rankpouch.errors import NoPlace, NoRow, RankError
-from rankpouch.rows import count_below, count_upto, look_row, number_at, packed
+from rankpouch.rows import count_below, count_upto, look_row, number_at, packed, places_of
 
 LONGEST = 1000000000
 HUGE = 10 ** 60 - 1
@@ -206,6 +206,16 @@ class Packed(unittest.TestCase):
             told.append((99, 1))
             self.assertEqual(row, before)
             self.assertEqual(packed(row), kept)
+
+
+class PlacesOf(unittest.TestCase):
+    def test_the_empty_row(self):
+        self.assertEqual(places_of([]), {})
+
+    def test_numbers_come_rising_with_their_first_and_last_place(self):
+        row = [(5, 2), (-3, 1), (5, 3), (0, 1)]
+        self.assertEqual(list(places_of(row).items()), [(-3, (1, 1)), (0, (2, 2)), (5, (3, 7))])
+        self.assertEqual(row, [(5, 2), (-3, 1), (5, 3), (0, 1)])
 
 
 if __name__ == "__main__":
