@@ -22,6 +22,11 @@ def apart(ahead, through):
     return (max(0, through[0] - ahead[1]), through[1] - ahead[0])
 
 
+def summed(bounds):
+    # One merged of several tells just the sums of what they tell, so it need not be made for each number asked for.
+    return (sum([pair[0] for pair in bounds]), sum([pair[1] for pair in bounds]))
+
+
 def so_manieth(pouch, place):
     # The place itself is left out of the refusal's words: Python won't write a number of thousands of figures.
     if place < 1 or place > pouch[0]:

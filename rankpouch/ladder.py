@@ -5,7 +5,7 @@ Two that come to one level are merged, thinned and laid to the next one, so one 
 twice as many puts as one of the level below it, and each number has been through few thinnings.
 """
 
-from rankpouch.asks import below, so_manieth, upto
+from rankpouch.asks import below, so_manieth, summed, upto
 from rankpouch.gaps import empty, merged, of_row, thinned
 from rankpouch.pouches import RankPouch
 
@@ -71,8 +71,3 @@ class Gaps(RankPouch):
 
     def so_manieth(self, place):
         return so_manieth(self.pouch(), place)
-
-
-def summed(bounds):
-    # One merged of all parts tells just these sums, so it need not be made for each number asked for.
-    return (sum([pair[0] for pair in bounds]), sum([pair[1] for pair in bounds]))

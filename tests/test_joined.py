@@ -1,10 +1,10 @@
-"""Rows drawn by fixed seeds, put in by parts and joined in several orders and groupings: points 3, 15 and 17."""
+"""Rows drawn by fixed seeds, put in by parts and joined in several orders and groupings: points 3, 15, 17 and 20."""
 
 import random
 import unittest
 
 from helpers import KINDS, LONGEST
-from pouch_checks import BOTH, PouchChecks, filled
+from pouch_checks import ALL, PouchChecks, filled
 from rankpouch.rows import look_row
 
 KEEPS = (1, 2, 3, 5, 10, 50, 1000)
@@ -71,7 +71,7 @@ class Joined(unittest.TestCase, PouchChecks):
 
     def assert_joined(self, row, draw, keep, many):
         parts = parted(row, draw, many)
-        for kind in BOTH:
+        for kind in ALL:
             for grouping in GROUPINGS:
                 with self.subTest(kind=kind.__name__, grouping=grouping.__name__, keep=keep, many=many):
                     whole, pouch = self.joined(kind, keep, parts, grouping(parts, draw))
@@ -91,7 +91,7 @@ class Joined(unittest.TestCase, PouchChecks):
             draw = random.Random(f"one by one {seed}")
             row = KINDS[0](draw)
             draw.shuffle(row)
-            for kind in BOTH:
+            for kind in ALL:
                 for keep in (1, 2, 3, 50):
                     self.assert_true_of(row, filled(kind, keep, row))
                     self.assert_true_of(one_by_one(row), filled(kind, keep, one_by_one(row)))
@@ -109,7 +109,7 @@ class Joined(unittest.TestCase, PouchChecks):
             self.assert_joined(row, draw, keep, 3)
 
     def test_some_are_put_in_between_joins(self):
-        for kind in BOTH:
+        for kind in ALL:
             for seed in range(10):
                 draw = random.Random(f"between {seed}")
                 keep = draw.choice((1, 2, 4, 9))
@@ -130,7 +130,7 @@ class Joined(unittest.TestCase, PouchChecks):
 
     def test_up_to_the_longest_row(self):
         draw = random.Random("longest")
-        for kind in BOTH:
+        for kind in ALL:
             for keep in (1, 7, 1000):
                 row = [(draw.randint(-40, 40), draw.randint(1, LONGEST // 60)) for _ in range(60)]
                 row.append((0, LONGEST - look_row(row)))

@@ -18,6 +18,8 @@ METHODS = set("""append clear copy count endswith extend find get index insert i
 PYTHONS = {name for kind in (str, int, list, tuple, dict, set, frozenset, bytes, bytearray) for name in dir(kind)}
 VALUES = set("count index title find get join lower upper split strip copy add".split())
 WALKERS = set("list tuple dict sorted sum any all enumerate zip min max".split())
+KEYWORDS = {"sorted": ("key", "reverse"), "min": ("key", "default"), "max": ("key", "default"), "sum": ("start",),
+            "enumerate": ("start",), "zip": ("strict",)}
 UNDERSCORED = {"__init__", "__eq__", "__repr__", "__str__", "__len__"}
 WORDS = re.compile(r"""\b(type|typing|typing_extensions|enum|Enum|IntEnum|StrEnum|Flag|IntFlag|Generic|Protocol|ABC
     |ABCMeta|namedtuple|NamedTuple|TypedDict|TYPE_CHECKING|abstractmethod)\b|dataclass|overload|contextmanager""",
@@ -94,6 +96,17 @@ class Language(unittest.TestCase):
             self.assertFalse(isinstance(node.value, str) and "%" in node.value, name)
         for name, node in nodes(ast.FormattedValue):
             self.assertIsInstance(node.value, ast.Name, name)
+
+    def test_the_top_of_a_module(self):
+        for name, tree in trees():
+            for node in tree.body[1:]:
+                self.assertIsInstance(node, (ast.ImportFrom, ast.FunctionDef, ast.ClassDef, ast.Assign), name)
+                if isinstance(node, ast.Assign):
+                    self.assertIsInstance(node.value, ast.Constant, f"{name}: {node.lineno}")
+
+    def test_escapes(self):
+        for name in files():
+            self.assertIsNone(re.search(r"""\\[^nt\\"']""", source(name)), name)
 
     def test_no_lone_value_but_a_module_docstring(self):
         for name, tree in trees():
@@ -181,6 +194,44 @@ class Language(unittest.TestCase):
                 if isinstance(node, ast.Name) and isinstance(node.ctx, ast.Store):
                     self.assertNotIn(node.id, taken, f"{name}: {node.lineno}")
 
+    def test_a_class_is_called_or_asked_for_and_nothing_else(self):
+        classes = {node.name for _, node in nodes(ast.ClassDef)}
+        for name, tree in trees():
+            above = parents(tree)
+            for node in ast.walk(tree):
+                if isinstance(node, ast.Name) and node.id in classes:
+                    over = above[node]
+                    # Base.__init__(self, ..) is how a base's own is called.
+                    begun = isinstance(over, ast.Attribute) and over.attr == "__init__"
+                    self.assertTrue(begun or isinstance(over, ast.ClassDef) or called(over) in (node.id, "isinstance"),
+                                    f"{name}: {node.lineno}")
+
+    def test_refusals_are_made_on_the_spot(self):
+        for name, node in nodes(ast.Raise):
+            self.assertIsInstance(node.exc, ast.Call, f"{name}: {node.lineno}")
+            self.assertIsNone(node.cause, f"{name}: {node.lineno}")
+
+    def test_nothing_is_tried(self):
+        # Narrower than L19, which binds what may stand there; nothing in the package has need of it.
+        self.assertEqual([name for name, node in nodes(ast.Try)], [])
+
+    def test_keywords_of_pythons_own(self):
+        own = {node.name for _, node in nodes(ast.FunctionDef)}
+        for name, node in nodes(ast.Call):
+            if called(node) not in own or called(node) in METHODS:
+                for word in node.keywords:
+                    self.assertIn(word.arg, KEYWORDS.get(called(node), ()), f"{name}: {node.lineno}")
+
+    def test_pythons_own_are_called_and_not_kept(self):
+        for name, tree in trees():
+            above = parents(tree)
+            for node in ast.walk(tree):
+                if isinstance(node, ast.Name) and node.id in BUILTINS and node.id[0].islower():
+                    over = above[node]
+                    known = called(over) == "isinstance" and over.args[1] is node
+                    self.assertTrue(known or isinstance(over, ast.keyword) or (
+                        isinstance(over, ast.Call) and over.func is node), f"{name}: {node.lineno}")
+
     def test_is_stands_beside_none_true_and_false(self):
         for name, node in nodes(ast.Compare):
             for sign, right in zip(node.ops, node.comparators):
@@ -200,7 +251,8 @@ class Language(unittest.TestCase):
                     over = above[node]
                     walked = isinstance(over, (ast.For, ast.comprehension)) and over.iter is node
                     taken = called(over) in WALKERS and over.args[0] is node
-                    self.assertTrue(walked or taken, f"{name}: {node.lineno}")
+                    joined = called(over) == "join" and isinstance(over.func.value, ast.Constant)
+                    self.assertTrue(walked or taken or joined, f"{name}: {node.lineno}")
 
     def test_sets_are_neither_kept_nor_walked(self):
         for name, tree in trees():

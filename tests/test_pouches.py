@@ -1,14 +1,15 @@
-"""What Gaps and Halves have in common: points 14 and 2, and the edges of 15 and 17."""
+"""What Gaps, Halves and Often have in common: points 14 and 2, and the edges of 15, 17 and 20."""
 
 import functools
 import itertools
 import unittest
 
 from helpers import HUGE, LONGEST
-from pouch_checks import BOTH, PouchChecks, all_told, filled, some_places
+from pouch_checks import ALL, BY_RANK, PouchChecks, all_kept, all_told, filled, some_places
 from rankpouch.errors import NoPlace, NoTimes, RankError, Unlike
 from rankpouch.halves import Halves
 from rankpouch.ladder import Gaps
+from rankpouch.often import Often
 from rankpouch.pouches import Pouch, RankPouch
 
 KEEPS = (1, 2, 3, 1000)
@@ -18,12 +19,12 @@ ASKED = [-HUGE, -4, -3, -2, 0, 1, 4, 5, 6, 9, 10, HUGE]
 NO_TIMES = (0, -1, -2, -LONGEST, -HUGE, -10 ** 5000)
 
 
-def for_each(*keeps):
-    """Has a test run for each class, and for each of these keeps."""
+def for_each(*keeps, kinds=ALL):
+    """Has a test run for each of these classes, and for each of these keeps."""
     def wrapped(test):
         @functools.wraps(test)
         def run(self):
-            for kind, keep in itertools.product(BOTH, keeps or KEEPS):
+            for kind, keep in itertools.product(kinds, keeps or KEEPS):
                 with self.subTest(kind=kind.__name__, keep=keep):
                     test(self, kind, keep)
         return run
@@ -40,14 +41,15 @@ class PouchTest(unittest.TestCase, PouchChecks):
 class Classes(unittest.TestCase):
     def test_bases(self):
         self.assertEqual(RankPouch.__bases__, (Pouch,))
-        for kind in BOTH:
+        self.assertEqual(Often.__bases__, (Pouch,))
+        for kind in BY_RANK:
             self.assertEqual(kind.__bases__, (RankPouch,))
 
     def test_each_has_all_of_the_interface(self):
         common = ["put", "join", "length", "puts", "held", "numbers", "off", "counted"]
         by_rank = common + ["upto", "below", "between", "so_manieth"]
         for kind, names in ((Pouch, common), (RankPouch, by_rank), (Gaps, by_rank + ["pouch"]),
-                            (Halves, by_rank + ["weights"])):
+                            (Halves, by_rank + ["weights"]), (Often, common + ["counts", "often"])):
             for name in names:
                 self.assertTrue(callable(getattr(kind, name, None)), (kind, name))
 
@@ -67,12 +69,17 @@ class Empty(PouchTest):
         pouch = kind(keep)
         self.assert_true_of([], pouch)
         self.assertEqual([pouch.length(), pouch.puts(), pouch.held(), pouch.off()], [0, 0, 0, 0])
-        self.assertEqual(pouch.numbers(), [])
+        self.assertEqual((pouch.numbers(), all_kept(pouch)), ([], []))
+        self.assertEqual([pouch.counted(number) for number in NUMBERS], [(0, 0)] * len(NUMBERS))
+
+    @for_each(kinds=BY_RANK)
+    def test_no_counts(self, kind, keep):
+        pouch = kind(keep)
         for number in NUMBERS:
-            self.assertEqual([pouch.upto(number), pouch.below(number), pouch.counted(number)], [(0, 0)] * 3)
+            self.assertEqual([pouch.upto(number), pouch.below(number)], [(0, 0)] * 2)
             self.assertEqual(pouch.between(-HUGE, number), (0, 0))
 
-    @for_each()
+    @for_each(kinds=BY_RANK)
     def test_no_place(self, kind, keep):
         for place in (1, 0, -1, 2, LONGEST, HUGE):
             self.assert_refused(NoPlace, kind(keep).so_manieth, place)
@@ -86,10 +93,15 @@ class Put(PouchTest):
             self.assertIsNone(pouch.put(number))
             self.assertEqual([pouch.length(), pouch.puts(), pouch.held(), pouch.off()], [1, 1, 1, 0])
             self.assertEqual(pouch.numbers(), [number])
-            self.assertEqual(pouch.so_manieth(1), number)
-            self.assertEqual([pouch.upto(number), pouch.below(number), pouch.counted(number)],
-                             [(1, 1), (0, 0), (1, 1)])
+            self.assertEqual([pouch.counted(number - 1), pouch.counted(number)], [(0, 0), (1, 1)])
             self.assert_true_of([(number, 1)], pouch)
+
+    @for_each(kinds=BY_RANK)
+    def test_the_ranks_of_one_put(self, kind, keep):
+        for number in NUMBERS:
+            pouch = filled(kind, keep, [(number, 1)])
+            self.assertEqual(pouch.so_manieth(1), number)
+            self.assertEqual([pouch.upto(number), pouch.below(number)], [(1, 1), (0, 0)])
 
     @for_each()
     def test_times_left_out_are_one(self, kind, keep):
@@ -108,10 +120,9 @@ class Put(PouchTest):
                 self.assertEqual(pouch.length(), times)
                 self.assertEqual(pouch.puts(), 1)
                 self.assertEqual(pouch.numbers(), [number])
-                self.assertEqual(pouch.so_manieth(times), number)
                 self.assert_true_of([(number, times)], pouch)
 
-    @for_each(4, 5, 1000)
+    @for_each(4, 5, 1000, kinds=BY_RANK)
     def test_few_are_told_exactly(self, kind, keep):
         row = [(9, 1), (-HUGE, 1), (HUGE, 1), (0, 1)]
         pouch = filled(kind, keep, row)
@@ -310,12 +321,11 @@ class JoinRefused(PouchTest):
         self.assertEqual((all_told(pouch, ASKED), all_told(other, ASKED)), before)
 
     def test_another_class(self):
-        for row, other in ((ROW, ROW), ([], []), (ROW, []), ([], ROW)):
-            for keep in KEEPS:
-                gaps = filled(Gaps, keep, row)
-                halves = filled(Halves, keep, other)
-                self.assert_changes_nothing(Unlike, gaps, halves)
-                self.assert_changes_nothing(Unlike, halves, gaps)
+        full = [(1, LONGEST)]
+        for row, other in itertools.product(([], ROW, full), repeat=2):
+            for kind, another in itertools.permutations(ALL, 2):
+                for keep in KEEPS:
+                    self.assert_changes_nothing(Unlike, filled(kind, keep, row), filled(another, keep, other))
 
     @for_each()
     def test_another_keep(self, kind, keep):
@@ -341,10 +351,10 @@ class JoinRefused(PouchTest):
     def test_unlike_goes_ahead_of_no_times(self):
         full = [(1, LONGEST)]
         for keep in KEEPS:
-            self.assert_changes_nothing(Unlike, filled(Gaps, keep, full), filled(Halves, keep, full))
-            self.assert_changes_nothing(Unlike, filled(Halves, keep, full), filled(Gaps, keep, full))
-            for kind in BOTH:
+            for kind in ALL:
                 self.assert_changes_nothing(Unlike, filled(kind, keep, full), filled(kind, keep + 1, full))
+            for kind, another in itertools.permutations(ALL, 2):
+                self.assert_changes_nothing(Unlike, filled(kind, keep, full), filled(another, keep + 1, full))
 
     @for_each()
     def test_after_a_refusal_it_takes_others(self, kind, keep):
@@ -357,7 +367,7 @@ class JoinRefused(PouchTest):
 
 class Told(PouchTest):
     def lists_of(self, pouch):
-        return [pouch.numbers(), pouch.pouch()[3] if isinstance(pouch, Gaps) else pouch.weights()]
+        return [pouch.numbers(), all_kept(pouch)] + ([pouch.often(1)] if isinstance(pouch, Often) else [])
 
     @for_each()
     def test_what_was_told_may_be_changed(self, kind, keep):
@@ -398,14 +408,16 @@ class Told(PouchTest):
         for number, times in ROW * 3:
             asked_often.put(number, times)
             all_told(asked_often, ASKED)
-            self.assert_refused(NoPlace, asked_often.so_manieth, 0)
+            if kind in BY_RANK:
+                self.assert_refused(NoPlace, asked_often.so_manieth, 0)
         self.assertEqual(all_told(asked_often, ASKED), all_told(filled(kind, keep, ROW * 3), ASKED))
 
 
 class AllSmall(PouchTest):
     def assert_small(self, row, pouch):
         self.assert_true_of(row, pouch)
-        self.assert_so_manieth(row, pouch, some_places(pouch.length(), pouch.length()))
+        if isinstance(pouch, RankPouch):
+            self.assert_so_manieth(row, pouch, some_places(pouch.length(), pouch.length()))
 
     @for_each(1, 2)
     def test_all_small_rows(self, kind, keep):
